@@ -4,7 +4,6 @@ import (
 	"math/rand"
 	"strings"
 	"testing"
-	"unsafe"
 
 	"loop.example/kilnwind/impl"
 )
@@ -174,9 +173,5 @@ func TestReadPartIsNewMemory(t *testing.T) {
 	p := impl.Packet{Kind: impl.PackData, From: 1, Mine: 1, Part: "a part"}
 	s := impl.FormPacket(p, "k", 8)
 	q, _ := impl.ReadPacket(s, "k", 8)
-	first := uintptr(unsafe.Pointer(unsafe.StringData(s)))
-	part := uintptr(unsafe.Pointer(unsafe.StringData(q.Part)))
-	if part >= first && part < first+uintptr(len(s)) {
-		t.Error("the Part lies in the text that was read")
-	}
+	newText(t, "ReadPacket", q.Part, s)
 }
